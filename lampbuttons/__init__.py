@@ -1,0 +1,1 @@
+"""Lights and buttons: lampbuttons.board.answers answers a list of calls about one board."""
