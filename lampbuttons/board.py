@@ -8,9 +8,12 @@ PRESS = 1
 FREE = 2
 WAYS = 3
 LEAST = 4
+WORST = 5
+ODD = 6
+EVEN = 7
 
 # How many numbers a call has, its own number with them. Begin is not here: its text's length lies in the list.
-CALL_SIZES = {1: 3, 2: 1, 3: 2, 4: 2}
+CALL_SIZES = {1: 3, 2: 1, 3: 2, 4: 2, 5: 1, 6: 1, 7: 1, 8: 1}
 
 NEWLINE = 10
 BLANK = 32
@@ -18,9 +21,11 @@ DIGIT_ZERO = 48
 DIGIT_NINE = 57
 
 MOST_LIGHTS = 25
+MOST_LIGHTS_OF_WORST = 16
 
 # The sets of this many buttons are gone through once a board, those of the others once a call:
 # with 25 lights that is 65536 sets once and 512 for each call, which keeps thousands of calls cheap.
+# Worst looks at the first buttons alone, so there must be no fewer of them than the lights that it allows.
 FIRST_BUTTONS = 16
 
 
@@ -96,9 +101,9 @@ def make_neighbours(turns, pair):
     turns[pair[1]] = turns[pair[1]] | (1 << pair[0])
 
 
-def reduce_lights(lights, basis):
-    """What is left of the lights by the basis: 0 if they are made up of its members, and only then."""
-    rest = lights
+def reduce_row(row, basis):
+    """The least that members of the basis leave of the row: 0 if they make it up, and only then."""
+    rest = row
     for member in basis:
         # The lesser of the two is the one without the member's highest bit, which no later member has.
         rest = min(rest, rest ^ member)
@@ -106,13 +111,24 @@ def reduce_lights(lights, basis):
 
 
 def make_basis(rows):
-    """As few sets of lights as make up the same ones as the rows do."""
+    """As few rows as make up the same ones as these do."""
     basis = []
     for row in rows:
-        rest = reduce_lights(row, basis)
+        rest = reduce_row(row, basis)
         if rest != 0:
             basis.append(rest)
     return basis
+
+
+def first_making(rows, lights):
+    """The least number of a set of the rows that together make up the lights, or None if there is none."""
+    # Below its lights each row carries a bit of its own, so what is left tells by these bits which rows were taken.
+    # The least that can be left has no lights if that can be, and of all such the least number below them.
+    marked = [(row << MOST_LIGHTS) + (1 << place) for place, row in enumerate(rows)]
+    rest = reduce_row(lights << MOST_LIGHTS, make_basis(marked))
+    if rest >> MOST_LIGHTS != 0:
+        return None
+    return rest
 
 
 def set_key(buttons, size):
@@ -157,6 +173,18 @@ def least_joined_key(lights, first_keys, other_keys):
     return best
 
 
+def worst_lights(keys):
+    """Of all lights that have a key those whose key has the most buttons, the least number of several."""
+    worst = 0
+    most = 0
+    for lights, key in keys.items():
+        size = key_size(key)
+        if size > most or (size == most and lights < worst):
+            worst = lights
+            most = size
+    return worst
+
+
 class Board:
     """One board; each method for a call gives back the numbers that the call answers."""
 
@@ -165,6 +193,7 @@ class Board:
         self.basis = []
         self.first_keys = None
         self.other_keys = None
+        self.worst_found = None
 
     def begin(self, text):
         """Sets up the board that the text tells."""
@@ -190,15 +219,23 @@ class Board:
         """The k of the two to the k quiet sets."""
         return len(self.turns) - len(self.basis)
 
-    def press(self, lights, presses):
-        """The lights that are lit after the presses."""
-        if self.has_strange_bit(lights) or self.has_strange_bit(presses):
-            return [-2]
+    def every_light(self):
+        """The set of all lights."""
+        return (1 << len(self.turns)) - 1
+
+    def lit_after(self, lights, presses):
+        """The lights that are lit after the presses, if these were lit ahead of them."""
         lit = lights
         for button, turned in enumerate(self.turns):
             if (presses >> button) & 1 == 1:
                 lit = lit ^ turned
-        return [0, lit]
+        return lit
+
+    def press(self, lights, presses):
+        """The lights that are lit after the presses."""
+        if self.has_strange_bit(lights) or self.has_strange_bit(presses):
+            return [-2]
+        return [0, self.lit_after(lights, presses)]
 
     def free(self):
         """The k of the two to the k quiet sets."""
@@ -208,7 +245,7 @@ class Board:
         """How many sets put the lights out."""
         if self.has_strange_bit(lights):
             return [-2]
-        if reduce_lights(lights, self.basis) != 0:
+        if reduce_row(lights, self.basis) != 0:
             return [0]
         # Any two sets that put out the same lights differ by a quiet set.
         return [1 << self.quiet_exponent()]
@@ -231,6 +268,51 @@ class Board:
             return [-3]
         return [key_size(key), key_buttons(key)]
 
+    def worst(self):
+        """The most buttons that lights take which can be put out, and the first such lights."""
+        if len(self.turns) > MOST_LIGHTS_OF_WORST:
+            return [-2]
+        # All sets are gone through, so what was found is kept for the next time.
+        if self.worst_found is None:
+            self.prepare_keys()
+            self.worst_found = worst_lights(self.first_keys)
+        return [key_size(self.first_keys[self.worst_found]), self.worst_found]
+
+    def first_odd_among(self, chosen):
+        """The first set of which each chosen light has an odd number among it and its neighbours,
+        and each other light an even number among its neighbours alone.
+        """
+        rows = []
+        for light, turned in enumerate(self.turns):
+            # Lights are neighbours of one another, so this is both whom the light counts and who counts the light.
+            rows.append(turned if (chosen >> light) & 1 == 1 else turned ^ (1 << light))
+        found = first_making(rows, chosen)
+        if found is None:
+            return [-3]
+        return [0, found]
+
+    def with_even_neighbours(self):
+        """The lights that have an even number of neighbours."""
+        # All buttons together turn a light once for itself and once for each neighbour.
+        return self.lit_after(0, self.every_light())
+
+    def odd(self):
+        """The first set of which everyone has an odd number among them and their neighbours."""
+        return self.first_odd_among(self.every_light())
+
+    def even(self):
+        """The first set whose members have an even number of neighbours in it, all others an even number outside."""
+        # Who has an even number of neighbours must have an even number of them in the set, being in it or not.
+        # Who has an odd number must have an even number there if in it, else an odd one: odd in both cases once the
+        # light itself is counted.
+        return self.first_odd_among(self.every_light() ^ self.with_even_neighbours())
+
+    def both(self):
+        """The first set whose members have an even number of neighbours in it, all others an odd number outside."""
+        # The others need what they must not have for even, so here those with an even number of neighbours and those
+        # with an odd number stand in each other's place.
+        return self.first_odd_among(self.with_even_neighbours())
+
 
 def call_size(calls, place):
     """How many numbers the call at this place has."""
@@ -249,7 +331,15 @@ def answer_call(board, call):
         return board.free()
     if call[0] == WAYS:
         return board.ways(call[1])
-    return board.least(call[1])
+    if call[0] == LEAST:
+        return board.least(call[1])
+    if call[0] == WORST:
+        return board.worst()
+    if call[0] == ODD:
+        return board.odd()
+    if call[0] == EVEN:
+        return board.even()
+    return board.both()
 
 
 def answers(calls):

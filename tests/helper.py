@@ -32,6 +32,22 @@ def least(lights):
     return [4, lights]
 
 
+def worst():
+    return [5]
+
+
+def odd():
+    return [6]
+
+
+def even():
+    return [7]
+
+
+def both():
+    return [8]
+
+
 def joined(calls):
     return [number for call in calls for number in call]
 
@@ -110,4 +126,63 @@ def effects(members, pairs):
 
 def putting_out(found, lights):
     """The sets that put the lights out, as (size, number), the least first."""
-    return sorted((bin(buttons).count("1"), buttons) for buttons, turned in found.items() if turned == lights)
+    return sorted((size_of(buttons), buttons) for buttons, turned in found.items() if turned == lights)
+
+
+def size_of(members):
+    return bin(members).count("1")
+
+
+def fewest(found):
+    """For all lights that can be put out how many buttons they take at the fewest, out of what each set turns."""
+    sizes = {}
+    for buttons, turned in found.items():
+        sizes[turned] = min(size_of(buttons), sizes.get(turned, len(found)))
+    return sizes
+
+
+def worst_of(sizes):
+    """The most buttons that any lights take, and the least number of the lights that take them."""
+    most = max(sizes.values())
+    return [most, min(lights for lights, size in sizes.items() if size == most)]
+
+
+def neighbours_of(light, pairs):
+    return [a + b - light for a, b in pairs if light in (a, b)]
+
+
+def wrong_for_odd(lights, pairs, chosen):
+    """Those who don't have an odd number of the set among them and their neighbours."""
+    return [light for light in lights
+            if sum(chosen >> other & 1 for other in [light] + neighbours_of(light, pairs)) % 2 != 1]
+
+
+def wrong_for_parts(lights, pairs, chosen, outside):
+    """Those in the set who don't have an even number of neighbours in it, and the others whose number of neighbours
+    outside it leaves another rest than this one by 2."""
+    wrong = []
+    for light in lights:
+        within = [other for other in neighbours_of(light, pairs) if chosen >> other & 1]
+        beyond = [other for other in neighbours_of(light, pairs) if not chosen >> other & 1]
+        if chosen >> light & 1:
+            if len(within) % 2 != 0:
+                wrong.append(light)
+        elif len(beyond) % 2 != outside:
+            wrong.append(light)
+    return wrong
+
+
+def wrong_for_even(lights, pairs, chosen):
+    return wrong_for_parts(lights, pairs, chosen, 0)
+
+
+def wrong_for_both(lights, pairs, chosen):
+    return wrong_for_parts(lights, pairs, chosen, 1)
+
+
+def such_sets(wrong_for, lights, pairs):
+    """All sets of these lights with which nothing is wrong, the least number first."""
+    found = [0]
+    for light in sorted(lights):
+        found += [other | 1 << light for other in found]
+    return [chosen for chosen in found if not wrong_for(lights, pairs, chosen)]

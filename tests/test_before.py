@@ -2,7 +2,8 @@
 
 import unittest
 
-from tests.helper import ALL_PAIRS_OF_25, ask_board, complete, free, grid, least, path, press, ways
+from tests.helper import (ALL_PAIRS_OF_25, ask_board, both, complete, even, free, grid, least, odd, path, press, ways,
+                          worst)
 
 LARGEST = (1 << 32) - 1
 
@@ -52,7 +53,8 @@ class Before(unittest.TestCase):
     def test_calls_behind_a_refusal_answer_as_if_it_had_not_been_asked(self):
         for count, pairs in BOARDS:
             every = (1 << count) - 1
-            calls = [press(every, 1), free(), ways(every), least(every), ways(1), least(1), press(1, every)]
+            calls = [press(every, 1), free(), ways(every), least(every), ways(1), least(1), press(1, every), worst(),
+                     odd(), even(), both()]
             plain = ask_board(count, pairs, *calls)
             for strange in (1 << count, every + 1 | 1, LARGEST):
                 for refused in (press(strange, 0), press(0, strange), ways(strange), least(strange)):
@@ -61,9 +63,20 @@ class Before(unittest.TestCase):
                     self.assertEqual(given[0::2], [[-2]] * len(calls))
                     self.assertEqual(given[1::2], plain)
 
+    def test_calls_behind_a_refused_worst(self):
+        for count, pairs in ((17, path(17)), (24, complete(range(24))), (25, ALL_PAIRS_OF_25), (25, grid(5, 5))):
+            every = (1 << count) - 1
+            calls = [press(every, 1), free(), ways(every), least(every), ways(1), least(1), odd(), even(), both()]
+            mixed = [one for call in calls for one in (worst(), call)]
+            given = ask_board(count, pairs, *mixed)
+            self.assertEqual(given[0::2], [[-2]] * len(calls))
+            self.assertEqual(given[1::2], ask_board(count, pairs, *calls))
+
     def test_calls_behind_lights_that_cannot_be_put_out(self):
         self.assertEqual(ask_board(2, [(0, 1)], least(1), free(), least(3), least(2), ways(3), press(3, 1)),
                          [[-3], [1], [1, 1], [-3], [2], [0, 0]])
+        self.assertEqual(ask_board(2, [(0, 1)], least(1), worst(), least(1), odd(), least(2), even(), least(1), both()),
+                         [[-3], [1, 3], [-3], [0, 1], [-3], [0, 1], [-3], [0, 0]])
 
 
 if __name__ == "__main__":
